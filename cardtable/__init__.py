@@ -1,0 +1,1 @@
+"""Blackjack's table: stakes, cards, turns and what is paid."""

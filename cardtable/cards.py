@@ -1,0 +1,27 @@
+"""What cards are and what they count."""
+
+
+def is_card(card):
+    return 1 <= card <= 13
+
+
+def are_cards(cards):
+    return all([is_card(card) for card in cards])
+
+
+def hard_total(cards):
+    return sum([min(card, 10) for card in cards])
+
+
+def is_soft(cards):
+    return 1 in cards and hard_total(cards) <= 11
+
+
+def total(cards):
+    if is_soft(cards):
+        return hard_total(cards) + 10
+    return hard_total(cards)
+
+
+def is_natural(cards):
+    return len(cards) == 2 and total(cards) == 21
