@@ -1,7 +1,7 @@
-"""The calls about a table: each one refuses, changing nothing, or does what it tells."""
+"""The calls that change a table: each one refuses, changing nothing, or does what it tells."""
 
-from cardtable.cards import are_cards, is_card
-from cardtable.rounds import HANDS, INSURANCE, PAID, STAKES
+from cardtable.cards import are_cards, is_card, is_pair
+from cardtable.rounds import DEALER, HANDS, INSURANCE, PAID, STAKES
 
 
 def begin(table, seats, decks, soft, again, giving, hands):
@@ -63,7 +63,7 @@ def hit(table, card):
         return [-5]
     hand = table.asked_hand()
     table.draw(hand, card)
-    return go_on_behind(table, hand)
+    return go_on_behind(table, hand.points())
 
 
 def stand(table):
@@ -71,7 +71,7 @@ def stand(table):
         return [-3]
     hand = table.asked_hand()
     hand.stand()
-    return go_on_behind(table, hand)
+    return go_on_behind(table, hand.points())
 
 
 def double(table, card):
@@ -87,13 +87,68 @@ def double(table, card):
     hand.stake = 2 * hand.stake
     table.draw(hand, card)
     hand.stand()
-    return go_on_behind(table, hand)
+    return go_on_behind(table, hand.points())
 
 
 def may_double(table, hand):
     return len(hand.cards) == 2 and (table.doubles_parted or not hand.parted)
 
 
-def go_on_behind(table, hand):
+def split_hand(table, first, second):
+    if not are_cards([first, second]):
+        return [-1]
+    if table.phase != HANDS:
+        return [-3]
+    if not may_split(table):
+        return [-4]
+    if not table.shoe.holds([first, second]):
+        return [-5]
+    table.part(first, second)
+    return go_on_behind(table, 2)
+
+
+def may_split(table):
+    return is_pair(table.asked_hand().cards) and len(table.asked_seat().hands) < table.most_hands
+
+
+def give_up(table):
+    if table.phase != HANDS:
+        return [-3]
+    hand = table.asked_hand()
+    if not may_give_up(table, hand):
+        return [-4]
+    hand.give_up()
+    return go_on_behind(table, 0)
+
+
+def may_give_up(table, hand):
+    return table.lets_give_up and len(hand.cards) == 2 and not hand.parted
+
+
+def go_on_behind(table, told):
     table.go_on()
-    return [hand.points()] + table.standing()
+    return [told] + table.standing()
+
+
+def draw_for_dealer(table, cards):
+    if not are_cards(cards):
+        return [-1]
+    if table.phase != DEALER:
+        return [-3]
+    if not table.are_drawn(cards):
+        return [-4]
+    if not table.shoe.holds(cards):
+        return [-5]
+    table.draw_for_dealer(cards)
+    return [table.dealer_points()] + table.standing()
+
+
+def shuffle(table, decks):
+    if not 1 <= decks <= 8:
+        return [-1]
+    if not table.is_set_up():
+        return [-2]
+    if table.phase not in (STAKES, PAID):
+        return [-3]
+    table.shuffle(decks)
+    return [table.shoe.size()]

@@ -1,6 +1,6 @@
 """A hand of a seat: its stake, its cards and what has become of it."""
 
-from cardtable.cards import is_natural, total
+from cardtable.cards import ACE, is_natural, total
 
 IN_PLAY = 0
 STANDS = 1
@@ -36,5 +36,16 @@ class Hand:
         if self.state == IN_PLAY:
             self.state = STANDS
 
+    def give_up(self):
+        self.state = GIVEN_UP
+
     def awaits_dealer(self):
         return self.state == STANDS and not self.natural()
+
+    def make_half(self, number, card):
+        """The one of both hands that a split makes of it: with its own card of that number and a new one."""
+        half = Hand(self.stake, [self.cards[number]], True)
+        half.draw(card)
+        if self.cards[number] == ACE:
+            half.stand()
+        return half

@@ -14,8 +14,10 @@ class Reader:
         self.place += 1
         return number
 
+    def read_numbers(self, many):
+        numbers = self.calls[self.place:self.place + many]
+        self.place += many
+        return numbers
+
     def read_row(self):
-        length = self.read_number()
-        row = self.calls[self.place:self.place + length]
-        self.place += length
-        return row
+        return self.read_numbers(self.read_number())

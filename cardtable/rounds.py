@@ -1,6 +1,6 @@
 """The table itself, and how a round goes on from phase to phase."""
 
-from cardtable.cards import is_natural, is_soft, total
+from cardtable.cards import ACE, is_natural, is_soft, total
 from cardtable.hand import Hand, IN_PLAY
 from cardtable.paying import seat_pay
 from cardtable.seat import Seat
@@ -11,8 +11,6 @@ INSURANCE = 1
 HANDS = 2
 DEALER = 3
 PAID = 4
-
-ACE = 1
 
 
 class Table:
@@ -29,6 +27,13 @@ class Table:
         self.most_hands = hands
         self.phase = STAKES
         self.dealer = []
+
+    def is_set_up(self):
+        # Each table that was begun has a seat at least.
+        return len(self.seats) > 0
+
+    def shuffle(self, decks):
+        self.shoe = Shoe(decks)
 
     def clear_round(self):
         for seat in self.seats:
@@ -56,9 +61,11 @@ class Table:
                         return [place, number]
         return [-1, -1]
 
+    def asked_seat(self):
+        return self.seats[self.turn()[0]]
+
     def asked_hand(self):
-        turn = self.turn()
-        return self.seats[turn[0]].hands[turn[1]]
+        return self.asked_seat().hands[self.turn()[1]]
 
     def dealer_points(self):
         if self.phase in (INSURANCE, HANDS):
@@ -92,6 +99,10 @@ class Table:
         self.shoe.take([card])
         hand.draw(card)
 
+    def part(self, first, second):
+        self.shoe.take([first, second])
+        self.asked_seat().part_hand(self.turn()[1], first, second)
+
     def go_on(self):
         if any([hand.state == IN_PLAY for hand in self.all_hands()]):
             self.phase = HANDS
@@ -101,10 +112,25 @@ class Table:
             self.pay()
 
     def dealer_draws(self):
-        if not any([hand.awaits_dealer() for hand in self.all_hands()]):
-            return False
-        points = total(self.dealer)
-        return points < 17 or (points == 17 and self.draws_soft and is_soft(self.dealer))
+        return any([hand.awaits_dealer() for hand in self.all_hands()]) and self.asks_for_card(self.dealer)
+
+    def asks_for_card(self, cards):
+        points = total(cards)
+        return points < 17 or (points == 17 and self.draws_soft and is_soft(cards))
+
+    def are_drawn(self, cards):
+        """Whether the dealer draws all of these and none behind them."""
+        drawn = list(self.dealer)
+        for card in cards:
+            if not self.asks_for_card(drawn):
+                return False
+            drawn.append(card)
+        return not self.asks_for_card(drawn)
+
+    def draw_for_dealer(self, cards):
+        self.shoe.take(cards)
+        self.dealer.extend(cards)
+        self.pay()
 
     def pay(self):
         for seat in self.seats:

@@ -11,3 +11,8 @@ class Seat:
         self.stake = 0
         self.insured = 0
         self.hands = []
+
+    def part_hand(self, number, first, second):
+        hand = self.hands[number]
+        halves = [hand.make_half(0, first), hand.make_half(1, second)]
+        self.hands = self.hands[:number] + halves + self.hands[number + 1:]

@@ -1,8 +1,14 @@
 """The interface: a list of calls about one table, and what they are answered."""
 
-from cardtable.calls import begin, deal, double, hit, insure, stake, stand
+from cardtable.calls import (
+    begin, deal, double, draw_for_dealer, give_up, hit, insure, shuffle, split_hand, stake, stand,
+)
 from cardtable.reader import Reader
 from cardtable.rounds import Table
+from cardtable.telling import now, tell_seat, tell_shoe
+
+# How many numbers each call has of its own; deal and dealer have a row behind them instead.
+NUMBERS = {1: 6, 2: 2, 3: 0, 4: 2, 5: 1, 6: 0, 7: 1, 8: 2, 9: 0, 10: 0, 11: 1, 12: 0, 13: 1, 14: 0}
 
 
 def answers(calls):
@@ -18,26 +24,31 @@ def answers(calls):
 
 def answer_call(table, reader):
     call = reader.read_number()
+    told = reader.read_numbers(NUMBERS[call])
     if call == 1:
-        return answer_begin(table, reader)
+        return begin(table, told[0], told[1], told[2], told[3], told[4], told[5])
     if call == 2:
-        place = reader.read_number()
-        return stake(table, place, reader.read_number())
+        return stake(table, told[0], told[1])
     if call == 3:
         return deal(table, reader.read_row())
     if call == 4:
-        place = reader.read_number()
-        return insure(table, place, reader.read_number())
+        return insure(table, told[0], told[1])
     if call == 5:
-        return hit(table, reader.read_number())
+        return hit(table, told[0])
     if call == 6:
         return stand(table)
     if call == 7:
-        return double(table, reader.read_number())
-    # Calls 8 to 14 are not built yet; to go on would take their numbers for calls.
-    raise KeyError(call)
-
-
-def answer_begin(table, reader):
-    told = [reader.read_number() for number in range(6)]
-    return begin(table, told[0], told[1], told[2], told[3], told[4], told[5])
+        return double(table, told[0])
+    if call == 8:
+        return split_hand(table, told[0], told[1])
+    if call == 9:
+        return give_up(table)
+    if call == 10:
+        return draw_for_dealer(table, reader.read_row())
+    if call == 11:
+        return shuffle(table, told[0])
+    if call == 12:
+        return now(table)
+    if call == 13:
+        return tell_seat(table, told[0])
+    return tell_shoe(table)

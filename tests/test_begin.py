@@ -1,4 +1,7 @@
-from helpers import HIGHEST, LOWEST, STAND, TableTest, begin, deal, double, hit, insure, last, play, stake, table_behind
+from helpers import (
+    GIVE, HIGHEST, LOWEST, NOW, PHASES, SHOE, STAND, TableTest, ask_seat, begin, deal, dealer, double, hit, insure,
+    last, play, shuffle, split, stake, table_behind,
+)
 
 ALONE = [stake(0, 10), deal(10, 9, 7, 10)]
 
@@ -62,6 +65,11 @@ class Begin(TableTest):
             self.assertEqual(table.standing(), [0, -1, -1, 0])
             self.assertEqual(play(begin(3), *before, begin(2, 3), deal())[-2:], [[156], [-4]])
 
+    def test_what_was_is_gone(self):
+        for phase, before in PHASES.items():
+            found = play(*before, begin(2, 3), NOW, SHOE, ask_seat(0), ask_seat(1), ask_seat(2))[-5:]
+            self.assertEqual(found, [[0, 0, -1, -1, 0], [156] + [12] * 13, [0] * 4, [0] * 4, [-1]], phase)
+
     def test_the_rules_are_kept(self):
         table = table_behind(begin(1, 1, 1, 0, 0, 3))
         self.assertEqual((table.draws_soft, table.doubles_parted, table.lets_give_up, table.most_hands),
@@ -86,6 +94,23 @@ class NoTable(TableTest):
         self.refused([], STAND, -3)
         self.refused([], double(5), -3)
         self.refused([], double(14), -1)
+        self.refused([], split(5, 5), -3)
+        self.refused([], split(5, 14), -1)
+        self.refused([], split(0, 5), -1)
+        self.refused([], GIVE, -3)
+        self.refused([], dealer(), -3)
+        self.refused([], dealer(5), -3)
+        self.refused([], dealer(5, 14), -1)
+        for decks in (1, 8):
+            self.refused([], shuffle(decks), -2)
+        for decks in (0, 9):
+            self.refused([], shuffle(decks), -1)
+        for seat in (-1, 0, 6, 7):
+            self.refused([], ask_seat(seat), -1)
+
+    def test_what_is_told_without_a_table(self):
+        self.assertEqual(play(NOW, SHOE), [[0, 0, -1, -1, 0], [0] * 14])
+        self.assertEqual(play(begin(0), NOW, SHOE, ask_seat(0)), [[-1], [0, 0, -1, -1, 0], [0] * 14, [-1]])
 
     def test_how_it_stands_without_a_table(self):
         table = table_behind()

@@ -1,27 +1,12 @@
 """hit, stand and double: the calls about the hand whose turn it is."""
 
-from cardtable.hand import Hand
-from cardtable.reader import Reader
-from cardtable.table import answer_call
 from helpers import (
-    DONE, HIGHEST, LOWEST, STAND, TableTest, begin, deal, double, hit, insure, last, picture, play, stake, states,
+    DONE, HIGHEST, LOWEST, NOT_HANDS, STAND, TableTest, begin, deal, double, hit, last, play, stake, states,
     table_behind,
 )
 
 ONE = [begin(), stake(0, 10), deal(5, 9, 6, 10)]
 THREE = [begin(4, 2), stake(0, 10), stake(1, 20), stake(3, 40), deal(5, 6, 7, 9, 6, 7, 8, 10)]
-OTHER_PHASES = [
-    [],
-    [begin()],
-    [begin(2), stake(0, 10)],
-    [begin(), stake(0, 10), deal(5, 1, 6, 10)],
-    [begin(), stake(0, 10), deal(5, 1, 6, 10), insure(0, 1)],
-    [begin(), stake(0, 10), deal(5, 1, 6, 10), DONE],
-    [begin(), stake(0, 10), deal(5, 10, 6, 1)],
-    [begin(), stake(0, 10), deal(10, 6, 6, 10), STAND],
-    [begin(), stake(0, 10), deal(10, 9, 6, 10), STAND],
-    [begin(), stake(0, 10), deal(10, 9, 6, 10), STAND, stake(0, 10)],
-]
 ALL_FIVES = [begin(2), stake(0, 10), stake(1, 10), deal(5, 5, 9, 5, 5, 10)]
 
 
@@ -69,7 +54,7 @@ class Hit(TableTest):
             self.refused(ONE, hit(card), -1)
 
     def test_only_while_hands_are_asked(self):
-        for before in OTHER_PHASES:
+        for before in NOT_HANDS:
             self.refused(before, hit(5), -3)
             self.refused(before, hit(14), -1)
 
@@ -124,7 +109,7 @@ class Stand(TableTest):
         self.assertEqual(last(*before, STAND), [16, 3, -1, -1, 12])
 
     def test_only_while_hands_are_asked(self):
-        for before in OTHER_PHASES:
+        for before in NOT_HANDS:
             self.refused(before, STAND, -3)
 
 
@@ -161,7 +146,7 @@ class Double(TableTest):
         self.assertEqual(last(*ONE, double(13)), [21, 4, -1, -1, 19])
 
     def test_only_while_hands_are_asked(self):
-        for before in OTHER_PHASES:
+        for before in NOT_HANDS:
             self.refused(before, double(5), -3)
             self.refused(before, double(14), -1)
 
@@ -179,12 +164,3 @@ class Double(TableTest):
         self.refused(three_cards, double(14), -1)
         self.refused(ALL_FIVES, double(14), -1)
         self.refused(ALL_FIVES + [STAND, STAND], double(5), -3)
-
-    def test_a_hand_of_a_split_only_where_the_rules_let(self):
-        # No call of these splits, so such a hand is put there by itself.
-        for again, answer in ((0, [-4]), (1, [11, 4, -1, -1, 19])):
-            table = table_behind(begin(again=again), *ONE[1:])
-            table.seats[0].hands = [Hand(10, [4, 5], True)]
-            was = picture(table)
-            self.assertEqual(answer_call(table, Reader(double(2))), answer)
-            self.assertEqual(picture(table) == was, again == 0)

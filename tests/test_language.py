@@ -83,6 +83,24 @@ class Language(unittest.TestCase):
             used = {node.id for node in ast.walk(tree) if isinstance(node, ast.Name)}
             self.assertEqual(used - BUILTINS - set(names) - {"self"}, set(), path)
 
+    def test_no_parameter_or_local_is_called_like_a_class_or_an_import(self):
+        for path, tree in trees():
+            taken = {part.name for node in ast.walk(tree) if isinstance(node, ast.ImportFrom) for part in node.names}
+            taken |= {node.name for node in ast.walk(tree) if isinstance(node, ast.ClassDef)}
+            kept = {node.arg for node in ast.walk(tree) if isinstance(node, ast.arg)}
+            names = [node for node in ast.walk(tree) if isinstance(node, ast.Name)]
+            kept |= {node.id for node in names if isinstance(node.ctx, ast.Store)}
+            self.assertEqual(taken & kept, set(), path)
+
+    def test_no_two_files_draw_from_one_another(self):
+        drawn = {"cardtable." + path.stem: {node.module for node in ast.walk(tree) if isinstance(node, ast.ImportFrom)}
+                 for path, tree in trees()}
+        while drawn:
+            free = [name for name in drawn if not drawn[name] & set(drawn)]
+            self.assertNotEqual(free, [], drawn)
+            for name in free:
+                del drawn[name]
+
     def test_no_name_is_a_method_here_and_a_value_there(self):
         methods, stored = set(), set()
         for path, tree in trees():

@@ -4,7 +4,7 @@ import unittest
 
 from cardtable.hand import BEYOND, GIVEN_UP, STANDS, Hand
 from cardtable.paying import hand_pay, insurance_pay
-from helpers import DONE, STAND, begin, deal, double, hit, insure, stake, table_behind, won
+from helpers import DONE, STAND, begin, deal, dealer, double, hit, insure, split, stake, table_behind, won
 
 
 def standing_hand(cards, parted=False, state=STANDS, stake=10):
@@ -38,6 +38,11 @@ class PaidByTheCalls(unittest.TestCase):
     def test_21_on_more_cards_is_no_natural(self):
         self.assertEqual(won(begin(), stake(0, 10), deal(5, 10, 6, 9), hit(10)), [20])
         self.assertEqual(won(begin(), stake(0, 10), deal(5, 10, 6, 9), double(10)), [40])
+
+    def test_a_natural_and_the_same_of_a_split(self):
+        self.assertEqual(won(begin(), stake(0, 10), deal(1, 10, 10, 9)), [30])
+        self.assertEqual(won(begin(hands=2), stake(0, 10), deal(10, 10, 10, 9), split(1, 1)), [20 + 20])
+        self.assertEqual(won(begin(hands=2), stake(0, 10), deal(10, 10, 10, 6), split(1, 1), dealer(5)), [0])
 
     def test_a_doubled_stake(self):
         for card, halves in ((7, -40), (8, 0), (9, 40)):
@@ -74,7 +79,7 @@ class PaidByTheCalls(unittest.TestCase):
 
 
 class PaidByTheWords(unittest.TestCase):
-    """The rows that no call of these reaches yet, and the others beside them."""
+    """Each row by itself, those too that meet in no round: a hand of a split, and a dealer's natural."""
 
     def test_given_up(self):
         self.assertEqual(hand_pay(standing_hand([10, 6], state=GIVEN_UP), [10, 9]), -10)

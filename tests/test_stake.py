@@ -1,4 +1,6 @@
-from helpers import DONE, HIGHEST, LOWEST, STAND, TableTest, begin, deal, insure, last, play, stake, states, table_behind
+from helpers import (
+    DONE, HIGHEST, LOWEST, STAND, TableTest, begin, deal, insure, last, play, stake, states, table_behind,
+)
 
 PAID = [begin(2), stake(0, 10), deal(10, 9, 7, 10), STAND]
 
